@@ -1,0 +1,1 @@
+"""Rankfall: failing houses cleared by ranks, to the last coin."""
