@@ -43,14 +43,25 @@ def paid_by(book, house, means):
     """What a house pays with its means: pairs (claim, coins) of all claims of which it is the debtor, rising."""
     need_house(book, house)
     _, claims = book
+    return sorted(paid_with(debts_by_rank(claims, house), means))
+
+
+def debts_by_rank(claims, house):
+    """The claims of which a house is the debtor: for each rank, the least first, a pair (numbers, amounts)."""
     ranks = {}
     for number, (debtor, _, amount, rank) in enumerate(claims):
         if debtor == house:
-            ranks.setdefault(rank, []).append((number, amount))
+            numbers, amounts = ranks.setdefault(rank, ([], []))
+            numbers.append(number)
+            amounts.append(amount)
+    return [ranks[rank] for rank in sorted(ranks)]
+
+
+def paid_with(debts, means):
+    """What is paid with the means on debts by rank: pairs (claim, coins), of the least rank first."""
     paid = []
-    for rank in sorted(ranks):
-        debts = ranks[rank]
-        shares = shared([amount for _, amount in debts], means)
+    for numbers, amounts in debts:
+        shares = shared(amounts, means)
         means -= sum(shares)
-        paid.extend([(number, coins) for (number, _), coins in zip(debts, shares)])
-    return sorted(paid)
+        paid.extend(list(zip(numbers, shares)))
+    return paid

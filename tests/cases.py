@@ -36,6 +36,85 @@ GOOD_BOOKS = [
     TANGLED,
 ]
 
+# Houses without coins that owe one another in a ring.
+RING = ((0, 0, 0), ((0, 1, 4, 1), (1, 2, 4, 1), (2, 0, 4, 1)))
+
+# Houses that owe one another ahead, with so few coins that each falls behind the one ahead.
+CHAIN = ((2, 1, 1, 0), ((0, 1, 5, 1), (1, 2, 5, 1), (2, 3, 5, 1)))
+
+# Houses 0 and 1 fail at once, and house 2 behind them. House 3 owes nothing.
+AT_ONCE = ((0, 1, 9, 0), ((0, 2, 3, 1), (1, 2, 5, 1), (2, 3, 15, 1)))
+
+# House 0 has just enough, and all that stand behind it live on that.
+JUST = ((5, 0, 0, 0), ((0, 1, 5, 1), (1, 2, 5, 1), (2, 3, 5, 1)))
+
+# Seven houses without coins in a ring of great claims, out of which one coin is owed ahead of all to the eighth house.
+LEAK = ((0,) * 8, tuple((k % 7, (k + 1) % 7, 999 - k, 2) for k in range(21)) + ((3, 7, 1, 1),))
+
+SHORT_BOOKS = [RING, CHAIN, AT_ONCE, JUST]
+
+
+def numbers_from(seed):
+    """Numbers without end that look like chance, but are always the same for a seed."""
+    while True:
+        seed = (seed * 6364136223846793005 + 1442695040888963407) % 2 ** 64
+        yield seed >> 33
+
+
+def made_books(seed, count, houses, claims, most_cash, most_amount):
+    """So many books: up to so many houses (two at least) and claims, coins and amounts up to the most."""
+    numbers = numbers_from(seed)
+    found = []
+    for _ in range(count):
+        many = 2 + next(numbers) % (houses - 1)
+        made = []
+        for _ in range(next(numbers) % (claims + 1)):
+            debtor = next(numbers) % many
+            creditor = (debtor + 1 + next(numbers) % (many - 1)) % many
+            made.append((debtor, creditor, 1 + next(numbers) % most_amount, 1 + next(numbers) % 3))
+        # Half of the houses hold nothing, so that enough of them fail.
+        cash = tuple(next(numbers) % 2 * (next(numbers) % (most_cash + 1)) for _ in range(many))
+        found.append((cash, tuple(made)))
+    return found
+
+
+def even_books(books, seed):
+    """The books with such coins that each house has hardly more than it owes if all pay all, but for one house."""
+    numbers = numbers_from(seed)
+    found = []
+    for cash, claims in books:
+        short = [next(numbers) % 2 for _ in cash]
+        for debtor, creditor, amount, _ in claims:
+            short[debtor] += amount
+            short[creditor] -= amount
+        short[next(numbers) % len(cash)] -= 1 + next(numbers) % 8
+        found.append((tuple(max(0, coins) for coins in short), claims))
+    return found
+
+
+# Small enough that all payments can be walked.
+TINY_BOOKS = made_books(1, 150, 4, 4, 4, 4) + made_books(2, 80, 3, 6, 3, 2)
+TINY_BOOKS += even_books(made_books(6, 100, 4, 4, 0, 4), 7)
+
+# Too many payments to walk, but soon done step by step.
+MIDDLE_BOOKS = made_books(3, 60, 6, 12, 12, 9) + made_books(4, 40, 8, 24, 15, 8)
+MIDDLE_BOOKS += even_books(made_books(10, 90, 8, 16, 0, 9), 11)
+
+
+def full_books():
+    """Books of eight houses and twenty-four claims, with great coins and amounts."""
+    numbers = numbers_from(5)
+    found = []
+    for _ in range(6):
+        claims = []
+        for k in range(24):
+            debtor = k % 8
+            creditor = (debtor + 1 + next(numbers) % 7) % 8
+            claims.append((debtor, creditor, 500 + next(numbers) % 500, 1 + next(numbers) % 9))
+        found.append((tuple(next(numbers) % 3 * (next(numbers) % 400) for _ in range(8)), tuple(claims)))
+    return found
+
+
 # Each with the number and the word of its first wrong thing.
 BAD_BOOKS = [
     # The count of houses.

@@ -1,30 +1,9 @@
 import unittest
-from fractions import Fraction
 from itertools import product
 
 from cases import TANGLED, refuses_bad_books, refuses_missing_houses
+from plain import coin_by_coin, paid_plainly
 from rankfall.sharing import paid_by, shared
-
-
-def coin_by_coin(amounts, coins):
-    """The sharing as the document tells it, one coin after the other."""
-    paid = [0] * len(amounts)
-    for _ in range(coins):
-        parts = [(Fraction(paid[k], amounts[k]), k) for k in range(len(amounts)) if paid[k] < amounts[k]]
-        if parts:
-            paid[min(parts)[1]] += 1
-    return paid
-
-
-def paid_plainly(book, house, means):
-    """What the house pays, rank by rank, with the plain sharing above."""
-    found = []
-    for rank in range(1, 10):
-        numbers = [n for n, claim in enumerate(book[1]) if claim[0] == house and claim[3] == rank]
-        got = coin_by_coin([book[1][n][2] for n in numbers], means)
-        means -= sum(got)
-        found += zip(numbers, got)
-    return sorted(found)
 
 
 class SharedTest(unittest.TestCase):
