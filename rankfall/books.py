@@ -40,10 +40,16 @@ def _wrong_in_claim(claim, houses):
 
 def need_house(book, house):
     """Refuse with BadBook what is no book, then with NoHouse a house that isn't in it."""
+    need_houses(book, [house])
+
+
+def need_houses(book, houses):
+    """Refuse with BadBook what is no book, then with NoHouse the first of the houses that isn't in it."""
     need_book(book)
     cash, _ = book
-    if not 0 <= house < len(cash):
-        raise NoHouse(f"there is no house {house}")
+    for house in houses:
+        if not 0 <= house < len(cash):
+            raise NoHouse(f"there is no house {house}")
 
 
 def net(book):

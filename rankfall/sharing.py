@@ -30,7 +30,7 @@ def _first_coins(amounts, coins):
 
 
 def _least_paid(amounts, paid):
-    """The number of the amount that gets the next coin; not all may be full."""
+    """The number of the amount that gets the next coin; None if all are full."""
     least = None
     for number, amount in enumerate(amounts):
         # Crosswise products compare the parts exactly.
@@ -65,3 +65,12 @@ def paid_with(debts, means):
         means -= sum(shares)
         paid.extend(list(zip(numbers, shares)))
     return paid
+
+
+def next_claim(debts, payments):
+    """The claim that gets the next coin paid on debts by rank, as the payments are; None if all of them is paid."""
+    for numbers, amounts in debts:
+        least = _least_paid(amounts, [payments[number] for number in numbers])
+        if least is not None:
+            return numbers[least]
+    return None

@@ -115,6 +115,25 @@ def full_books():
     return found
 
 
+def great_books():
+    """Books of eight houses and twenty-four claims up to 999, by which rings of great claims are paid by few coins."""
+    found = []
+    for cash, claims in even_books(made_books(12, 60, 8, 24, 0, 999), 13):
+        found.append((tuple(min(999, coins) for coins in cash), claims))
+    for coins in [0, 1, 999]:
+        found.append(((coins,) + (0,) * 7, tuple((k % 8, (k + 1) % 8, 999, 1 + k % 9) for k in range(24))))
+    return found
+
+
+# One coin goes round a ring of claims of 999 until these are paid; only then it leaks out by another rank.
+SLOW_LEAKS = [
+    ((0, 0, 0, 1) + (0,) * 4, tuple((k, (k + 1) % 7, 999, 1) for k in range(7)) + ((3, 7, 1, 2), (5, 7, 999, 9))),
+    ((0, 0, 2, 0), ((0, 1, 999, 3), (1, 2, 999, 1), (2, 0, 998, 1), (2, 3, 5, 2), (1, 3, 4, 2))),
+    # Of each five hundred coins or so one leaks out by the same rank.
+    ((500, 0, 0), ((0, 1, 999, 1), (1, 0, 997, 1), (0, 2, 2, 1), (1, 0, 999, 2), (0, 1, 998, 2))),
+]
+
+
 # Each with the number and the word of its first wrong thing.
 BAD_BOOKS = [
     # The count of houses.

@@ -169,3 +169,81 @@ def losses_plainly(book):
     for house in houses_of(book):
         lost.append(sum(claim[2] - coins for claim, coins in zip(book[1], payments) if claim[1] == house))
     return lost
+
+
+def paid_on_plainly(book, held, payments, house):
+    """Let the house pay one coin, if it may, and tell whether it did."""
+    open_claims = []
+    for claim, (debtor, _, amount, rank) in enumerate(book[1]):
+        if debtor == house and payments[claim] < amount:
+            open_claims.append((rank, Fraction(payments[claim], amount), claim))
+    if held[house] == 0 or not open_claims:
+        return False
+    _, _, claim = min(open_claims)
+    payments[claim] += 1
+    held[house] -= 1
+    held[book[1][claim][1]] += 1
+    return True
+
+
+def stilled_plainly(book, picks):
+    """Coin by coin: those picked, then the least house that may, as long as anybody may."""
+    held, payments = list(book[0]), [0] * len(book[1])
+    for house in picks:
+        paid_on_plainly(book, held, payments, house)
+    while any(paid_on_plainly(book, held, payments, house) for house in houses_of(book)):
+        pass
+    return payments
+
+
+def played_plainly(book, moves):
+    """A tuple of payments and coins held; or the number of the first move that doesn't fit."""
+    held, payments = list(book[0]), [0] * len(book[1])
+    for number, (word, what, coins) in enumerate(moves):
+        numbers = [what] if word == "pay" else list(what)
+        if coins < 1 or any(claim not in range(len(book[1])) for claim in numbers):
+            return number
+        if any(payments[claim] + coins > book[1][claim][2] for claim in numbers):
+            return number
+        debtors = [book[1][claim][0] for claim in numbers]
+        creditors = [book[1][claim][1] for claim in numbers]
+        if word == "ring":
+            if len(numbers) < 2 or len(set(numbers)) != len(numbers) or creditors != debtors[1:] + debtors[:1]:
+                return number
+        elif coins > held[debtors[0]]:
+            return number
+        else:
+            held[debtors[0]] -= coins
+            held[creditors[0]] += coins
+        for claim in numbers:
+            payments[claim] += coins
+    return payments, held
+
+
+def merged_plainly(book, one, other):
+    """The merged book, whatever coins come together."""
+    lesser, greater = min(one, other), max(one, other)
+    names = [lesser if house == greater else house for house in houses_of(book)]
+    order = sorted(set(names))
+    cash = tuple(sum(book[0][k] for k in houses_of(book) if names[k] == house) for house in order)
+    claims = []
+    for debtor, creditor, amount, rank in book[1]:
+        if {debtor, creditor} != {one, other}:
+            claims.append((order.index(names[debtor]), order.index(names[creditor]), amount, rank))
+    return cash, tuple(claims)
+
+
+def renumbered(book, numbers):
+    """The book in which each house has the number that stands at its place in the list."""
+    cash = [0] * len(numbers)
+    for house, number in enumerate(numbers):
+        cash[number] = book[0][house]
+    claims = [(numbers[debtor], numbers[creditor], amount, rank) for debtor, creditor, amount, rank in book[1]]
+    return tuple(cash), tuple(claims)
+
+
+def side_by_side(one, other):
+    """One book of two that have nothing to do with one another."""
+    shift = len(one[0])
+    moved = [(debtor + shift, creditor + shift, amount, rank) for debtor, creditor, amount, rank in other[1]]
+    return (one[0] + other[0], one[1] + tuple(moved))

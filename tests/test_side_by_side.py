@@ -1,16 +1,14 @@
 import unittest
 
 from cases import AT_ONCE, CHAIN, JUST, MIDDLE_BOOKS, RING, TANGLED, TINY_BOOKS
+from plain import side_by_side
 from rankfall.clearing import best, is_clearing, left, worst
 from rankfall.falling import failing, felled, needs, waves
+from rankfall.merging import merged
+from rankfall.orders import order, played
 from rankfall.papers import losses, paper, shows
-
-
-def side_by_side(one, other):
-    """One book of two that have nothing to do with one another."""
-    shift = len(one[0])
-    moved = [(debtor + shift, creditor + shift, amount, rank) for debtor, creditor, amount, rank in other[1]]
-    return (one[0] + other[0], one[1] + tuple(moved))
+from rankfall.play import stilled
+from rankfall.texts import read, written
 
 
 def pairs():
@@ -66,6 +64,31 @@ class SideBySideTest(unittest.TestCase):
             moved = [(house + len(one[0]), means, owed) for house, means, owed in paper(other)]
             self.assertEqual(paper(both), paper(one) + moved)
             self.assertIs(shows(both, moved + paper(one)), True)
+
+    def test_paying_on(self):
+        for one, other in pairs():
+            both = side_by_side(one, other)
+            last = len(both[0]) - 1
+            for picks in [[], [0, last] * 5, [last] * 9]:
+                self.assertEqual(stilled(both, picks), stilled(one, []) + stilled(other, []))
+
+    def test_orders(self):
+        for one, other in pairs():
+            both = side_by_side(one, other)
+            payments, held = played(one, order(one))
+            more_payments, more_held = played(other, order(other))
+            self.assertEqual(played(both, order(both)), (payments + more_payments, held + more_held))
+
+    def test_merged_within_one_of_them(self):
+        for one, other in pairs():
+            both = side_by_side(one, other)
+            if len(one[0]) > 1:
+                self.assertEqual(merged(both, 0, 1), side_by_side(merged(one, 0, 1), other))
+
+    def test_texts(self):
+        for one, other in pairs():
+            both = side_by_side(one, other)
+            self.assertEqual(read(written(both)), side_by_side(read(written(one)), read(written(other))))
 
 
 if __name__ == "__main__":
